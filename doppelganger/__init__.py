@@ -1,0 +1,1 @@
+"""Doppelganger: pieces of programs that no program tells apart."""
