@@ -113,3 +113,80 @@ class Maker:
 def pieces(count, size, sound=True, seed=0):
     """So many pieces; sound ones may still be too large."""
     return [Maker(f"{seed} {size} {at}", sound).piece(size) for at in range(count)]
+
+
+def programs(count, size, seed=0):
+    """So many sound pieces without declarations; they may still be too large."""
+    made = []
+    for at in range(count):
+        maker = Maker(f"program {seed} {size} {at}", True)
+        kind = maker.random.choice(["com", "exp"])
+        made.append(((), kind, maker.term(kind, size, {})))
+    return made
+
+
+class Lively(Maker):
+    """Makes terms that seldom end at once: few stops and faults, many variables, calls and loops."""
+
+    def term(self, kind, size, scope):
+        if size > 0 and self.random.random() < 0.85:
+            return self.form(kind, size, scope)
+        return self.random.choice([self.plain, self.use, self.use])(kind, size, scope)
+
+    def plain(self, kind, _size, scope):
+        if self.random.random() < 0.02:
+            return self.random.choice([("stop",), ("fault",)])
+        variables = [name for name in scope if scope[name] == "variable"]
+        if variables and self.random.random() < 0.7:
+            name = self.random.choice(variables)
+            if kind == "exp":
+                return ("read", name)
+            word = self.random.choice(["add", "sub", "mul", "less"])
+            return ("set", name, (word, ("read", name), ("num", self.random.randrange(3))))
+        return ("skip",) if kind == "com" else ("num", self.random.randrange(3))
+
+    def use(self, kind, size, scope):
+        term = super().use(kind, size, scope)
+        # Most exits depend on something, so that what follows them is run, too.
+        if term[0] == "exit" and self.random.random() < 0.8:
+            return ("if", self.plain("exp", size, scope), term, self.plain(kind, size, scope))
+        return term
+
+    def form(self, kind, size, scope):
+        forms = [self.condition, self.variable, self.procedure, self.procedure]
+        if kind == "com":
+            forms += [self.row, self.row, self.row, self.loop, self.loop, self.block]
+        else:
+            forms += [self.operation, self.operation, self.do, self.do]
+        return self.random.choice(forms)(kind, size - 1, scope)
+
+
+def lively_programs(count, size, seed=0):
+    """So many sound pieces without declarations of which many run for a while; they may be too large."""
+    made = []
+    for at in range(count):
+        maker = Lively(f"lively {seed} {size} {at}", True)
+        kind = maker.random.choice(["com", "exp"])
+        made.append(((), kind, maker.term(kind, size, {})))
+    return made
+
+
+def lively_pieces(count, size, seed=0):
+    """So many sound pieces with declarations of which many run for a while; they may be too large."""
+    return [Lively(f"lively {seed} {size} {at}", True).piece(size) for at in range(count)]
+
+
+def contexts(count, size, seed=0):
+    """So many sound pieces with a hole, beside other declarations."""
+    made = []
+    for at in range(count):
+        maker = Maker(f"context {seed} {size} {at}", True)
+        decls = tuple(sorted(
+            [("hole", (), maker.random.choice(["com", "exp"]))]
+            + [(name, maker.types(), maker.random.choice(["com", "exp"]))
+               for name in maker.random.sample(["a", "b", "f"], maker.random.choice([0, 1, 2]))]
+        ))
+        kind = maker.random.choice(["com", "exp"])
+        scope = {name: (types, result) for name, types, result in decls}
+        made.append((decls, kind, maker.term(kind, size, scope)))
+    return made

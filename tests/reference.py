@@ -1,6 +1,7 @@
-"""The rules of [1.5] to [1.8], written down once more, as plainly as possible and without care for depth."""
+"""The rules of [1.5] to [1.8] and [1.12], written down once more, as plainly as possible and without care for depth."""
 
-from doppelganger.errors import BadKind, BadName, TooLarge
+from doppelganger.errors import BadKind, BadName, Missing, TooLarge
+from helpers import row_of
 
 
 def parts(term, kind, scope):
@@ -65,5 +66,64 @@ def error_of_piece(piece):
     """The class of the error that `check_piece` raises for a piece that is shaped as one, or None."""
     decls, kind, term = piece
     scope = {name: ("call", list(types), result) for name, types, result in decls}
+    return fault_of(term, kind, scope) or (TooLarge if error_of_size(term, kind) else None)
+
+
+def error_of_size(term, kind):
+    """Whether a term is too large."""
     found = levels(term, kind)
-    return fault_of(term, kind, scope) or (TooLarge if len(found) > 400 or max(found) > 30 else None)
+    return len(found) > 400 or max(found) > 30
+
+
+def with_parts(term, made):
+    """A term with other parts, which always stand last in it; rows are grouped from the left."""
+    if term[0] == "seq":
+        return row_of(steps(made[0]) + steps(made[1]))
+    if term[0] == "call":
+        return ("call", term[1], tuple((kind, part) for (kind, _), part in zip(term[2], made)))
+    return term[:len(term) - len(made)] + tuple(made)
+
+
+def steps(command):
+    """The steps of a row, in order."""
+    return steps(command[1]) + [command[2]] if command[0] == "seq" else [command]
+
+
+def is_hole(term, scope):
+    """Whether a node is a call of the declared hole."""
+    return term[:2] == ("call", "hole") and scope["hole"] == ("hole",)
+
+
+def holes(term, kind, scope):
+    """What is bound at each call of the hole, in order."""
+    if is_hole(term, scope):
+        return [scope]
+    return [found for part_kind, part, inner in parts(term, kind, scope) for found in holes(part, part_kind, inner)]
+
+
+def put_in(term, kind, scope, piece_term):
+    """A term with another one in the place of the calls of the hole."""
+    if is_hole(term, scope):
+        return piece_term
+    made = [put_in(part, part_kind, inner, piece_term) for part_kind, part, inner in parts(term, kind, scope)]
+    return with_parts(term, made)
+
+
+def filled(context, piece):
+    """What `fill` returns, or the class of the error that it raises ([1.12])."""
+    decls, kind, term = context
+    result = {name: result for name, types, result in decls if (name, types) == ("hole", ())}.get("hole")
+    if result != piece[1]:
+        return Missing if result is None else BadKind
+    scope = {name: ("call", list(types), result) for name, types, result in decls}
+    scope["hole"] = ("hole",)
+    for found in holes(term, kind, scope):
+        for name, types, result in piece[0]:
+            if found.get(name, ("hole",)) == ("hole",):
+                return BadName
+            if found[name] != ("call", list(types), result):
+                return BadKind
+    made = put_in(term, kind, scope, piece[2])
+    if error_of_size(made, kind):
+        return TooLarge
+    return (tuple(decl for decl in decls if decl[0] != "hole"), kind, made)

@@ -6,10 +6,7 @@ import inspect
 import unittest
 from pathlib import Path
 
-from doppelganger.errors import BadForm, BadName
-from doppelganger.reader import read_piece
-from doppelganger.terms import kids, row
-from doppelganger.writer import piece_text
+from doppelganger.errors import DoppelError
 
 ROOT = Path(__file__).resolve().parent.parent
 
@@ -22,11 +19,21 @@ FUNCTIONS = {
     "names": {"check_piece": ["piece"], "used_names": ["piece"]},
     "reader": {"read_piece": ["text"]},
     "writer": {"piece_text": ["piece"]},
+    "contexts": {"fill": ["context", "piece"]},
+    "runs": {"operate": ["kind", "first", "second"], "run": ["piece"], "run_for": ["piece", "limit"]},
+    "automata": {"check_machine": ["machine"], "accepts": ["machine", "word"], "least_machine": ["machine"],
+                 "count_words": ["machine", "length"]},
+    "differ": {"difference": ["first", "second"]},
+    "relate": {"relation": ["first", "second"], "check_relation": ["first", "second", "pairs"]},
 }
 CONSTANTS = {
     "terms": {"WIDTH": 3, "MAX_NODES": 400, "MAX_LEVEL": 30, "MAX_DECLS": 3, "MAX_ARGS": 2, "MAX_NAME": 4},
     "reader": {"MAX_TEXT": 6000},
+    "runs": {"WIDTH": 3, "MAX_STEPS": 20000},
+    "automata": {"MAX_SIGNS": 200, "MAX_MACHINE": 400, "MAX_PAIRS": 4000, "MAX_COUNT": 100},
 }
+# How many lines the examples of each module have.
+EXAMPLES = {"terms": 4, "reader": 6, "writer": 3, "contexts": 6, "runs": 16, "automata": 7, "differ": 3, "relate": 5}
 
 
 def module_of(name):
@@ -63,34 +70,40 @@ class InterfaceTest(unittest.TestCase):
                     self.assertIs(getattr(module_of(name), constant).__class__, int)
 
 
+def examples():
+    """The examples of the document, as they stand in examples.txt: pairs of a module and the lines of one."""
+    text = (Path(__file__).resolve().parent / "examples.txt").read_text(encoding="utf-8")
+    for example in text.strip().split("\n\n"):
+        heading, *lines = example.split("\n")
+        yield heading.removeprefix("# "), lines
+
+
 class ExamplesTest(unittest.TestCase):
-    """The examples of the document, as they stand there."""
+    def run_example(self, lines):
+        """Runs the lines of one example; behind a line stands what it shows, or the error that it raises."""
+        names = {}
+        for line, told in zip(lines, lines[1:] + [""]):
+            if line.startswith(">>> "):
+                expected = "" if told.startswith(">>> ") else told
+                with self.subTest(line):
+                    self.assertEqual(self.shown(line[4:], names), expected)
 
-    def test_row(self):
-        self.assertEqual(row(("skip",), ("seq", ("stop",), ("skip",))), ("seq", ("seq", ("skip",), ("stop",)), ("skip",)))
+    def shown(self, line, names):
+        try:
+            if isinstance(ast.parse(line).body[0], ast.Expr):
+                value = eval(line, names)  # pylint: disable=eval-used
+                return "" if value is None else repr(value)
+            exec(line, names)  # pylint: disable=exec-used
+            return ""
+        except DoppelError as error:
+            return f"raises {error.__class__.__name__}"
 
-    def test_kids(self):
-        self.assertEqual(kids(("new", "x", ("num", 1), ("skip",)), "com"), [("exp", ("num", 1)), ("com", ("skip",))])
-
-    def test_read_piece(self):
-        self.assertEqual(
-            read_piece("p : com |- com : p; skip"),
-            ((("p", (), "com"),), "com", ("seq", ("call", "p", ()), ("skip",))),
-        )
-
-    def test_read_piece_raises_bad_name(self):
-        with self.assertRaises(BadName):
-            read_piece("|- exp : new x = 1 [ x + y ]")
-
-    def test_read_piece_raises_bad_form(self):
-        with self.assertRaises(BadForm):
-            read_piece("|- exp : 3")
-
-    def test_piece_text(self):
-        self.assertEqual(
-            piece_text(read_piece("b : exp, a(com,exp):com|-com:a({stop},(b-(b-1))==(1))")),
-            "a(com, exp) : com, b : exp |- com : a({ stop }, b - (b - 1) == 1)",
-        )
+    def test_examples(self):
+        found = {}
+        for module, lines in examples():
+            found[module] = found.get(module, 0) + sum(line.startswith(">>> ") for line in lines)
+            self.run_example(lines)
+        self.assertEqual(found, EXAMPLES)
 
 
 if __name__ == "__main__":

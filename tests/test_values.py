@@ -3,12 +3,18 @@
 import copy
 import unittest
 
+from doppelganger.automata import accepts, check_machine, count_words, least_machine
+from doppelganger.contexts import fill
+from doppelganger.differ import difference as machine_difference
 from doppelganger.names import check_piece, used_names
 from doppelganger.reader import read_piece
+from doppelganger.relate import check_relation, relation
+from doppelganger.runs import run, run_for
 from doppelganger.terms import is_shaped, kids, nodes, row
 from doppelganger.writer import piece_text
-from generate import pieces
-from helpers import ONE, SKIP
+from generate import contexts, lively_programs, pieces
+from helpers import ONE, SKIP, error_of
+from machines import random_machines
 
 TEXT = "c : com, f(com, val) : com |- com : c; f({ c }, 1); new x = 1 { x := x }"
 
@@ -60,6 +66,36 @@ class ValuesTest(unittest.TestCase):
             with self.assertRaises(ValueError):
                 read_piece("|- exp : (")
             self.assertEqual(read_piece("|- exp : 1"), ((), "exp", ONE))
+
+    def test_programs_stay(self):
+        for piece in lively_programs(60, 6):
+            before = copy.deepcopy(piece)
+            for function, args in [(run, (piece,)), (run_for, (piece, 500)), (run_for, (piece, 500)), (run, (piece,))]:
+                error_of(function, *args)
+            self.assertEqual(piece, before)
+            self.assertEqual(run_for(piece, 500), run_for(piece, 500))
+
+    def test_contexts_stay(self):
+        for context in contexts(60, 5):
+            piece = ((), "com", ("seq", SKIP, ("stop",)))
+            before = copy.deepcopy((context, piece))
+            error_of(fill, context, piece)
+            error_of(fill, context, context)
+            self.assertEqual((context, piece), before)
+
+    def test_machines_words_and_pairs_stay(self):
+        for machine in random_machines(100, 9):
+            word, pairs = [0, 1, 2], [(0, 0), (1, 1)]
+            before = copy.deepcopy((machine, word, pairs))
+            other = least_machine(machine)
+            for function, args in [(check_machine, (machine,)), (accepts, (machine, word)), (count_words, (machine, 5)),
+                                   (machine_difference, (machine, other)), (relation, (machine, other)),
+                                   (check_relation, (machine, other, pairs))]:
+                error_of(function, *args)
+            self.assertEqual((machine, word, pairs), before)
+            self.assertEqual(least_machine(machine), other)
+            if machine[1]:
+                self.assert_new_list(relation, machine, machine)
 
     def test_row_leaves_its_arguments(self):
         first, second = ("seq", SKIP, SKIP), ("seq", SKIP, ("stop",))
