@@ -190,3 +190,87 @@ def contexts(count, size, seed=0):
         scope = {name: (types, result) for name, types, result in decls}
         made.append((decls, kind, maker.term(kind, size, scope)))
     return made
+
+
+class Playful(Lively):
+    """Makes pieces that often call what is declared."""
+
+    def term(self, kind, size, scope):
+        if size > 0 and self.random.random() < 0.96:
+            return self.form(kind, size, scope)
+        return self.random.choice([self.plain, self.use])(kind, size, scope)
+
+    def called(self, name, size, scope):
+        kinds = ["com" if each == "com" else "exp" for each in scope[name][0]]
+        return ("call", name, tuple((each, self.term(each, size - 1, scope)) for each in kinds))
+
+    def fitting(self, kind, size, scope):
+        return [name for name in self.declared if scope[name][1] == kind and (size > 0 or not scope[name][0])]
+
+    def use(self, kind, size, scope):
+        declared = self.fitting(kind, size, scope)
+        if declared and self.random.random() < 0.7:
+            return self.called(self.random.choice(declared), size, scope)
+        return super().use(kind, size, scope) if size > 0 else self.plain(kind, size, scope)
+
+    def form(self, kind, size, scope):
+        declared = self.fitting(kind, size, scope)
+        if declared and self.random.random() < 0.25:
+            return self.called(self.random.choice(declared), size, scope)
+        return super().form(kind, size, scope)
+
+    def plain(self, kind, size, scope):
+        labels = [name for name in scope if scope[name] == "label"]
+        if labels and self.random.random() < 0.15:
+            return ("exit", self.random.choice(labels))
+        return super().plain(kind, size, scope)
+
+    def piece(self, size):
+        count = self.random.choice([1, 1, 2, 3])
+        names = sorted(self.random.sample(["p", "q", "r", "s"], count))
+        decls = tuple((name, self.types(), self.random.choice(["com", "com", "exp"])) for name in names)
+        kind = self.random.choice(["com", "exp"])
+        self.declared = {name: (types, result) for name, types, result in decls}
+        return (decls, kind, self.term(kind, size, dict(self.declared)))
+
+
+def playful_pieces(count, size, seed=0):
+    """So many sound pieces that call what is declared; they may be too large."""
+    return [Playful(f"playful {seed} {size} {at}", True).piece(size) for at in range(count)]
+
+
+def leaving_term(chance, size, labels, params=()):
+    """A command with many blocks, and with exits within arguments of declared names and procedures."""
+    words = ["exit"] * bool(labels) + ["param"] * bool(params) + ["skip"]
+    if size > 0:
+        words += ["block"] * 3 + ["f", "g", "h"] * 2 + ["seq", "while"]
+    word = chance.choice(words)
+    if word == "exit":
+        return ("exit", chance.choice(labels))
+    if word == "param":
+        return ("call", chance.choice(params), ())
+    if word == "block":
+        name = chance.choice(["j", "k"])
+        return ("block", name, leaving_term(chance, size - 1, labels + [name], params))
+    if word in ("f", "g", "h"):
+        arg = ("com", leaving_term(chance, size - 1, labels, params))
+        other = ("com", leaving_term(chance, size // 2, labels, params))
+        return ("call", word, {"f": (arg, other), "g": (("exp", ("num", 1)), arg), "h": (arg,)}[word])
+    if word == "while":
+        return ("while", ("num", 1), leaving_term(chance, size - 1, labels, params))
+    if word == "seq":
+        return ("seq", leaving_term(chance, 0, labels, params), ("block", "j", leaving_term(chance, size, labels + ["j"], params)))
+    return ("skip",)
+
+
+def leaving_pieces(count, size, seed=0):
+    """So many sound pieces with exits out of arguments; h is a procedure in them."""
+    made = []
+    for at in range(count):
+        chance = random.Random(f"leaving {seed} {size} {at}")
+        body = ("call", "f", (("com", ("call", "a", ())), ("com", ("skip",))))
+        if chance.random() < 0.5:
+            body = ("block", "k", ("call", "g", (("exp", ("num", 2)), ("com", body))))
+        term = ("proc", "h", (("a", "com"),), "com", body, leaving_term(chance, size, []))
+        made.append(((("f", ("com", "com"), "com"), ("g", ("val", "com"), "com")), "com", term))
+    return made

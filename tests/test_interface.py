@@ -25,15 +25,27 @@ FUNCTIONS = {
                  "count_words": ["machine", "length"]},
     "differ": {"difference": ["first", "second"]},
     "relate": {"relation": ["first", "second"], "check_relation": ["first", "second", "pairs"]},
+    "combine": {"both": ["first", "second"], "either": ["first", "second"], "hide": ["machine", "hidden"]},
+    "moves": {"letters": ["decls", "kind"], "is_other": ["move"], "move_text": ["decls", "move"],
+              "read_play": ["decls", "kind", "text"]},
+    "unfold": {"unfolded_size": ["piece"], "is_beyond": ["piece"]},
+    "situations": {"reply": ["piece", "moves"], "count_situations": ["piece"]},
+    "plays": {"plays": ["piece"], "is_play": ["piece", "moves"]},
 }
 CONSTANTS = {
     "terms": {"WIDTH": 3, "MAX_NODES": 400, "MAX_LEVEL": 30, "MAX_DECLS": 3, "MAX_ARGS": 2, "MAX_NAME": 4},
     "reader": {"MAX_TEXT": 6000},
     "runs": {"WIDTH": 3, "MAX_STEPS": 20000},
     "automata": {"MAX_SIGNS": 200, "MAX_MACHINE": 400, "MAX_PAIRS": 4000, "MAX_COUNT": 100},
+    "moves": {"QUESTION": ("", 0, False, 0), "FAULT": ("!",), "MAX_PLAY": 40},
+    "unfold": {"MAX_UNFOLDED": 400},
+    "situations": {"MAX_BEATS": 2000, "MAX_SITUATIONS": 400},
 }
 # How many lines the examples of each module have.
-EXAMPLES = {"terms": 4, "reader": 6, "writer": 3, "contexts": 6, "runs": 16, "automata": 7, "differ": 3, "relate": 5}
+EXAMPLES = {
+    "terms": 4, "reader": 6, "writer": 3, "contexts": 6, "runs": 16, "automata": 7, "differ": 3, "relate": 5,
+    "combine": 5, "moves": 3, "situations": 5, "plays": 11,
+}
 
 
 def module_of(name):
@@ -67,7 +79,7 @@ class InterfaceTest(unittest.TestCase):
             for constant, value in constants.items():
                 with self.subTest(constant):
                     self.assertEqual(getattr(module_of(name), constant), value)
-                    self.assertIs(getattr(module_of(name), constant).__class__, int)
+                    self.assertIs(getattr(module_of(name), constant).__class__, value.__class__)
 
 
 def examples():
