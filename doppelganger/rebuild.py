@@ -3,6 +3,23 @@
 from doppelganger.terms import FORMS, KINDS, kids, nodes, row
 
 
+def is_part(field):
+    """Tells whether a field of a form has a part."""
+    return field in KINDS or field in ("same", "body")
+
+
+def head_of(term):
+    """Returns what a node has beside its parts, as a tuple."""
+    made = [term[0]]
+    _, fields = FORMS[term[0]]
+    for field, value in zip(fields, term[1:]):
+        if field == "args":
+            made.append(tuple([kind for kind, _ in value]))
+        elif not is_part(field):
+            made.append(value)
+    return tuple(made)
+
+
 def refilled(term, parts):
     """Returns a node with other parts, just as they are given."""
     made = [term[0]]
@@ -11,7 +28,7 @@ def refilled(term, parts):
     for field, value in zip(fields, term[1:]):
         if field == "args":
             made.append(tuple([(arg[0], part) for arg, part in zip(value, parts)]))
-        elif field in KINDS or field in ("same", "body"):
+        elif is_part(field):
             made.append(parts[taken])
             taken += 1
         else:

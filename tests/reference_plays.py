@@ -279,3 +279,40 @@ def plays_of(piece, length):
             if situation is not None and len(play) + 2 <= length:
                 waiting += [play + [each] for each in other_moves(piece, called(term, situation))]
     return found
+
+
+def shows(piece, play):
+    """Whether a piece has a play, or one that ends with the fault and is otherwise a beginning of it.
+
+    There are no limits, and pieces beyond the border may be given, too.
+    """
+    player = Player()
+    player.beat = lambda many=1: None
+    playing = player.whole(unfolded(piece, 10 ** 6)[0])
+    move, _ = next(playing)
+    for at in range(1, len(play), 2):
+        if move == FAULT:
+            return True
+        if move != play[at]:
+            return False
+        if at + 1 < len(play):
+            player.other()
+            move, _ = playing.send(play[at + 1])
+    return True
+
+
+def walk(piece, most, chance):
+    """A play of a piece with at most so many moves, in which the other side moves at random; or the empty list."""
+    player = Player()
+    player.beat = lambda many=1: None
+    playing = player.whole(unfolded(piece, 10 ** 6)[0])
+    play = [QUESTION]
+    move, situation = next(playing)
+    while move is not None:
+        play.append(move)
+        if situation is None or len(play) + 2 > most:
+            return play
+        play.append(chance.choice(other_moves(piece, called(unfolded(piece, 10 ** 6)[0], situation))))
+        player.other()
+        move, situation = playing.send(play[-1])
+    return play[:-1]

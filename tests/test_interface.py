@@ -12,6 +12,7 @@ ROOT = Path(__file__).resolve().parent.parent
 
 CLASSES = {
     "errors": ["DoppelError", "NotAllowed", "BadForm", "BadName", "BadKind", "TooLarge", "Missing", "Same", "Apart"],
+    "book": ["Book"],
 }
 FUNCTIONS = {
     "terms": {"is_name": ["text"], "kids": ["term", "kind"], "nodes": ["term", "kind"],
@@ -31,6 +32,16 @@ FUNCTIONS = {
     "unfold": {"unfolded_size": ["piece"], "is_beyond": ["piece"]},
     "situations": {"reply": ["piece", "moves"], "count_situations": ["piece"]},
     "plays": {"plays": ["piece"], "is_play": ["piece", "moves"]},
+    "same": {"same": ["first", "second"], "difference": ["first", "second"]},
+    "witness": {"is_possible": ["decls", "kind", "play"], "context_of": ["decls", "kind", "play"],
+                "witness": ["first", "second"]},
+    "certify": {"certify": ["first", "second"], "check_certificate": ["first", "second", "pairs"]},
+    "matching": {"count_nodes": ["term"], "term_at": ["term", "number"], "replace_at": ["term", "number", "other"],
+                 "match": ["side", "other", "term"], "fill_unknowns": ["side", "found"]},
+}
+METHODS = {
+    "book": {"Book": {"__init__": [], "add": ["left", "right"], "size": [], "rule": ["index"],
+                      "apply_rule": ["index", "back", "piece", "number"], "simplify": ["piece"]}},
 }
 CONSTANTS = {
     "terms": {"WIDTH": 3, "MAX_NODES": 400, "MAX_LEVEL": 30, "MAX_DECLS": 3, "MAX_ARGS": 2, "MAX_NAME": 4},
@@ -40,11 +51,13 @@ CONSTANTS = {
     "moves": {"QUESTION": ("", 0, False, 0), "FAULT": ("!",), "MAX_PLAY": 40},
     "unfold": {"MAX_UNFOLDED": 400},
     "situations": {"MAX_BEATS": 2000, "MAX_SITUATIONS": 400},
+    "witness": {"MAX_SHOWN": 12},
+    "book": {"MAX_RULES": 12},
 }
 # How many lines the examples of each module have.
 EXAMPLES = {
     "terms": 4, "reader": 6, "writer": 3, "contexts": 6, "runs": 16, "automata": 7, "differ": 3, "relate": 5,
-    "combine": 5, "moves": 3, "situations": 5, "plays": 11,
+    "combine": 5, "moves": 3, "situations": 5, "plays": 11, "same": 9, "witness": 11, "certify": 7,
 }
 
 
@@ -73,6 +86,15 @@ class InterfaceTest(unittest.TestCase):
                 with self.subTest(function):
                     found = inspect.signature(getattr(module_of(name), function)).parameters
                     self.assertEqual(list(found), args)
+
+    def test_methods_stand_in_their_classes(self):
+        for name, classes in METHODS.items():
+            for node in tree_of(name).body:
+                if isinstance(node, ast.ClassDef) and node.name in classes:
+                    found = {each.name: [arg.arg for arg in each.args.args][1:]
+                             for each in node.body if isinstance(each, ast.FunctionDef)}
+                    expected = classes[node.name]
+                    self.assertEqual({method: found[method] for method in expected}, expected)
 
     def test_constants(self):
         for name, constants in CONSTANTS.items():
