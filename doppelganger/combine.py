@@ -37,22 +37,26 @@ def least_of_pairs(first, second, numbers, ends):
     return made
 
 
-def both(first, second):
-    """Returns the least machine of the words that both machines accept."""
+def combined(first, second, is_either):
+    """Returns the least machine of the words that both machines accept, or at least one of them."""
     check_letters(first, second)
     one, other = least_machine(first), least_machine(second)
-    numbers = numbers_of_pairs(one, other, False)
-    ends = [is_end(one, pair[0]) and is_end(other, pair[1]) for pair in numbers]
+    numbers = numbers_of_pairs(one, other, is_either)
+    ends = []
+    for pair in numbers:
+        told = [is_end(one, pair[0]), is_end(other, pair[1])]
+        ends.append(any(told) if is_either else all(told))
     return least_of_pairs(one, other, numbers, ends)
+
+
+def both(first, second):
+    """Returns the least machine of the words that both machines accept."""
+    return combined(first, second, False)
 
 
 def either(first, second):
     """Returns the least machine of the words that at least one of the machines accepts."""
-    check_letters(first, second)
-    one, other = least_machine(first), least_machine(second)
-    numbers = numbers_of_pairs(one, other, True)
-    ends = [is_end(one, pair[0]) or is_end(other, pair[1]) for pair in numbers]
-    return least_of_pairs(one, other, numbers, ends)
+    return combined(first, second, True)
 
 
 # A set of states is an integer here, in which the bit of each of its states is set.

@@ -37,11 +37,11 @@ class Guide:
     def __init__(self, decls, play):
         declared = [name for name, _, _ in decls]
         free = [name for name in NAMES if name not in declared]
-        self.low, self.high, self.told, self.leave = free[:4]
+        self.low, self.high, self.told, self.label = free[:4]
         self.params = free[4:6]
         self.play = play
 
-    def made(self, count):
+    def has_made(self, count):
         """Returns the condition that the piece has made so many moves."""
         low = ("equal", ("read", self.low), ("num", count % WIDTH))
         return ("mul", low, ("equal", ("read", self.high), ("num", count // WIDTH)))
@@ -60,7 +60,7 @@ class Guide:
         cases = []
         for count, move in enumerate(self.play[1::2]):
             if move[:3] == beginning:
-                condition = self.made(count)
+                condition = self.has_made(count)
                 for variable, value in zip(variables, (move[3] % WIDTH, move[3] // WIDTH)):
                     condition = ("mul", condition, ("equal", ("read", variable), ("num", value)))
                 cases.append((condition, self.after(count + 1)))
@@ -85,7 +85,7 @@ class Guide:
         for at, of_type in enumerate(types):
             counts = self.counts_of((name, at + 1, False))
             if counts:
-                condition = is_one_of([self.made(count) for count, _ in counts])
+                condition = is_one_of([self.has_made(count) for count, _ in counts])
                 cases.append((condition, self.asked(self.params[at], of_type, (name, at + 1, True))))
         return cases
 
@@ -96,11 +96,11 @@ class Guide:
         command = self.check((name, 0, False), values)
         cases = self.questions(decl)
         if cases:
-            loop = ("while", ("num", 1), choice(cases, ("exit", self.leave)))
-            command = ("seq", command, ("block", self.leave, loop))
+            loop = ("while", ("num", 1), choice(cases, ("exit", self.label)))
+            command = ("seq", command, ("block", self.label, loop))
         if result == "com":
             return command
-        answers = [(self.made(count), ("num", value)) for count, value in self.counts_of((name, 0, True))]
+        answers = [(self.has_made(count), ("num", value)) for count, value in self.counts_of((name, 0, True))]
         return ("do", command, choice(answers, ZERO))
 
     def whole(self, decls, kind):

@@ -15,8 +15,8 @@ from doppelganger.terms import steps_of
 
 MAX_UNFOLDED = 400
 
-# Stands for each tree with too many nodes, so that nothing larger is ever made.
-LARGE = ("large", 0, (), MAX_UNFOLDED + 1)
+# Stands for each tree with more than MAX_UNFOLDED nodes, so that nothing larger is ever made.
+LARGE = ("large", 0, (), 401)
 
 
 def tree_of(word, data, parts):
