@@ -118,7 +118,7 @@ def hide(machine, hidden):
     closed = [reached(moves, left_out, state) for state in range(len(moves))]
     # The last one stands for the state -1: no state at all.
     closed.append(0)
-    entries = [[0 if letter in left_out else closed[target] for letter, target in enumerate(entry)] for entry in moves]
+    entries = [[0 if at in left_out else closed[target] for at, target in enumerate(entry)] for entry in moves]
     found = moves_of_sets(closed[0], entries)
     numbers = {many: number for number, many in enumerate(found)}
     numbers[0] = -1

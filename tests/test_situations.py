@@ -125,6 +125,12 @@ class MovesTest(ReplyCase):
             ("? f? f.2?", "e?"), ("? f? f.2? e? e!0", "e?"), ("? f? f.2? e? e!0 e? e!1", "!2"), ("? f? f!0 e? e!1", "!2"),
         ])
 
+    def test_an_exit_within_an_argument(self):
+        piece = piece_of("exp : g(e, do { block k { new x = 1 + exit k { skip } } } [ e ]) + 1")
+        self.assert_replies(piece, [("? e? e!2", "e?"), ("? e? e!2 e? e!1", "g?5"), ("? e? e!2 e? e!1 g?5 g!1", "!2")])
+        piece = piece_of("exp : g(e, do { block k { exit k } } [ 1 ]) - 1")
+        self.assert_replies(piece, [("? e? e!2", "g?5"), ("? e? e!2 g?5 g!0", "!2")])
+
     def test_variables_of_loops_and_blocks(self):
         piece = piece_of("exp : new x = 0 [ do { while x < 2 { new y = e { x := x + y } } } [ x ] ]")
         self.assert_replies(piece, [
@@ -396,7 +402,25 @@ class SituationsTest(unittest.TestCase):
         self.assert_counts([
             ("exp : e + (do { block k { new x = e * (e + exit k) { skip } } } [ e ])", 1 + 3 + 9 + 3),
             ("exp : do { block k { new x = e { f({ exit k }, 1) } } } [ e ]", 1 + 3 + 1),
+            ("com : if e { block k { new x = e + exit k { skip } }; f({ skip }, 1) } { skip }", 1 + 1 + 1),
+            ("com : if e { skip } { block k { new x = e + exit k { skip } }; f({ skip }, 1) }", 1 + 1 + 1),
+            ("com : skip; block k { new x = e * exit k { skip } }; f({ skip }, 1)", 1 + 1),
+            ("com : f({ skip }, do { block k { new x = e * exit k { skip } } } [ e ])", 1 + 1 + 1),
+            ("com : while e { block k { new x = e * exit k { skip } }; f({ skip }, 1) }", 1 + 1 + 1),
+            ("exp : do { skip } [ do { block k { new x = e * exit k { skip } } } [ e ] ]", 1 + 1),
+            ("com : new y = 1 { block k { new x = e * exit k { skip } }; f({ skip }, 1) }", 1 + 1),
         ])
+
+    def test_an_exit_within_an_argument_leaves_what_waits_outside(self):
+        self.assert_counts([
+            ("exp : g(e, do { block k { exit k } } [ 1 ])", 1 + 1), ("exp : g(e, do { block k { new x = 1 + exit k { skip } } } [ e ])", 1 + 3 + 1),
+            ("exp : e * g(e, do { block k { new x = 1 + exit k { skip } } } [ e ])", 1 + 3 + 9 + 3),
+            ("exp : e + (do { block k { new x = e * exit k { skip } } } [ e ])", 1 + 3 + 3),
+        ])
+        self.assert_counts([
+            ("com : h(e, { block k { new x = e * exit k { skip } }; m({ skip }, e) })", 1 + 1 + 1 + 1 + 1),
+            ("com : m({ block k { new x = e * exit k { skip } }; h(1, { skip }) }, e)", 1 + 1 + 1 + 1),
+        ], "e : exp, h(val, com) : com, m(com, val) : com")
 
     def test_exactly_400_and_401_situations(self):
         counts = {1: 1, 2: 4, 3: 13, 4: 40, 5: 121, 6: 364}

@@ -111,6 +111,15 @@ class SizeTest(unittest.TestCase):
                 if count <= 400:
                     self.assertEqual(unfolded_size(piece), count)
 
+    def test_rows_of_exactly_400_nodes(self):
+        for count in (398, 399, 400, 401, 402):
+            row = row_of([("block", "k", SKIP)] + [SKIP] * ((count - 2) // 2)) if count % 2 == 0 else row_with_nodes(count)
+            for term in [row, ("proc", "p", (), "com", SKIP, row), ("proc", "p", (), "com", row, ("call", "p", ()))]:
+                piece = ((), "com", term)
+                self.assertIs(error_of(unfolded_size, piece), TooLarge if count > 400 else None)
+                if count <= 400:
+                    self.assertEqual(unfolded_size(piece), count)
+
     def test_exactly_400_nodes_by_calls(self):
         for count in (199, 200, 201):
             # The argument comes twice, with a sum around both.

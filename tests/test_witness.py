@@ -337,6 +337,14 @@ class WitnessTest(unittest.TestCase):
                 count += 1
         self.assertGreater(count, 150)
 
+    def test_differences_of_many_moves(self):
+        for count in (18, 19, 20, 21, 60):
+            calls = "; ".join(["p"] * count)
+            first, second = piece_of(f"com : {calls}", "p : com"), piece_of(f"com : {calls}; fault", "p : com")
+            self.assertEqual(len(difference(first, second)[0]), 2 * count + 2)
+            self.assertIs(error_of(witness, first, second), TooLarge)
+            self.assertIs(error_of(witness, second, first), TooLarge)
+
     def test_differences_of_12_and_14_moves(self):
         for count in (4, 5, 6, 7):
             calls = "; ".join(["p"] * count)
