@@ -274,3 +274,19 @@ def leaving_pieces(count, size, seed=0):
         term = ("proc", "h", (("a", "com"),), "com", body, leaving_term(chance, size, []))
         made.append(((("f", ("com", "com"), "com"), ("g", ("val", "com"), "com")), "com", term))
     return made
+
+
+def modules(count, size, seed=0):
+    """So many modules; they may be too large."""
+    made = []
+    for at in range(count):
+        maker = Lively(f"module {seed} {size} {at}", True)
+        names = maker.random.sample(["n", "m", "q", "qq", "x"], maker.random.choice([0, 1, 1, 2, 2, 3]))
+        variables = tuple((name, maker.random.randrange(3)) for name in names)
+        scope = {name: "variable" for name in names}
+        operations = []
+        for name in maker.random.sample(["get", "inc", "call", "f"], maker.random.choice([1, 2, 2])):
+            kind = maker.random.choice(["com", "exp"])
+            operations.append((name, kind, maker.term(kind, size, scope)))
+        made.append((variables, tuple(operations)))
+    return made

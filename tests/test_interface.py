@@ -38,6 +38,13 @@ FUNCTIONS = {
     "certify": {"certify": ["first", "second"], "check_certificate": ["first", "second", "pairs"]},
     "matching": {"count_nodes": ["term"], "term_at": ["term", "number"], "replace_at": ["term", "number", "other"],
                  "match": ["side", "other", "term"], "fill_unknowns": ["side", "found"]},
+    "modules": {"check_module": ["module"], "read_module": ["text"], "module_text": ["module"], "piece_of": ["module"],
+                "first_state": ["module"]},
+    "operations": {"run_operation": ["module", "state", "index"], "history": ["module", "calls"]},
+    "linking": {"link": ["module", "client"]},
+    "relations": {"same_modules": ["first", "second"], "relation": ["first", "second"],
+                  "is_relation": ["first", "second", "pairs"]},
+    "instructions": {"is_code": ["code"]},
 }
 METHODS = {
     "book": {"Book": {"__init__": [], "add": ["left", "right"], "size": [], "rule": ["index"],
@@ -53,11 +60,14 @@ CONSTANTS = {
     "situations": {"MAX_BEATS": 2000, "MAX_SITUATIONS": 400},
     "witness": {"MAX_SHOWN": 12},
     "book": {"MAX_RULES": 12},
+    "modules": {"MAX_HIDDEN": 3, "MAX_OPERATIONS": 2, "MAX_MODULE_TEXT": 5900},
+    "instructions": {"MAX_CODE": 600, "MAX_STACK": 40},
 }
 # How many lines the examples of each module have.
 EXAMPLES = {
     "terms": 4, "reader": 6, "writer": 3, "contexts": 6, "runs": 16, "automata": 7, "differ": 3, "relate": 5,
     "combine": 5, "moves": 3, "situations": 5, "plays": 11, "same": 9, "witness": 11, "certify": 7,
+    "modules": 4, "operations": 5, "linking": 6, "relations": 5,
 }
 
 
