@@ -60,15 +60,25 @@ def check_hole_is_free(decls):
         raise BadName("the name of the hole is declared")
 
 
-def context_of(decls, kind, play):
-    """Returns a context that is faulted just for the pieces that have a play, or make a fault on the way."""
-    if not are_decls(decls) or kind not in KINDS:
-        raise NotAllowed("these are no declarations, or this is no kind")
-    check_hole_is_free(decls)
+def check_shown(decls, kind, play):
+    """Raises an error if a list of moves is not possible, or too long to be shown."""
     if not is_possible(decls, kind, play):
         raise BadForm("the moves are not possible")
     if len(play) > MAX_SHOWN:
         raise TooLarge(f"the play has more than {MAX_SHOWN} moves")
+
+
+def check_declared(decls, kind):
+    """Raises NotAllowed if something is not the declarations or the kind of a piece."""
+    if not are_decls(decls) or kind not in KINDS:
+        raise NotAllowed("these are no declarations, or this is no kind")
+
+
+def context_of(decls, kind, play):
+    """Returns a context that is faulted just for the pieces that have a play, or make a fault on the way."""
+    check_declared(decls, kind)
+    check_hole_is_free(decls)
+    check_shown(decls, kind, play)
     return guiding_context(decls, kind, play)
 
 

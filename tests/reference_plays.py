@@ -316,3 +316,17 @@ def walk(piece, most, chance):
         player.other()
         move, situation = playing.send(play[-1])
     return play[:-1]
+
+
+def has_play(piece, play):
+    """Whether a piece has a play; there are no limits, and pieces beyond the border may be given, too."""
+    player = Player()
+    player.beat = lambda many=1: None
+    playing = player.whole(unfolded(piece, 10 ** 6)[0])
+    move, _ = next(playing)
+    for at in range(1, len(play) - 1, 2):
+        if move != play[at] or move == FAULT:
+            return False
+        player.other()
+        move, _ = playing.send(play[at + 1])
+    return move == play[-1]

@@ -45,6 +45,11 @@ FUNCTIONS = {
     "relations": {"same_modules": ["first", "second"], "relation": ["first", "second"],
                   "is_relation": ["first", "second", "pairs"]},
     "instructions": {"is_code": ["code"]},
+    "compiler": {"compile_piece": ["piece"]},
+    "cpu": {"run_code": ["code", "around", "entry"]},
+    "around": {"around_of": ["decls", "kind", "play"]},
+    "lines": {"read_command": ["line"]},
+    "desk": {"run_script": ["script"]},
 }
 METHODS = {
     "book": {"Book": {"__init__": [], "add": ["left", "right"], "size": [], "rule": ["index"],
@@ -62,6 +67,7 @@ CONSTANTS = {
     "book": {"MAX_RULES": 12},
     "modules": {"MAX_HIDDEN": 3, "MAX_OPERATIONS": 2, "MAX_MODULE_TEXT": 5900},
     "instructions": {"MAX_CODE": 600, "MAX_STACK": 40},
+    "cpu": {"MAX_CELLS": 4, "MAX_INNER": 2000, "MAX_STEPS": 20000, "MAX_NEST": 24},
 }
 # How many lines the examples of each module have.
 EXAMPLES = {
