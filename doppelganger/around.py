@@ -36,7 +36,7 @@ ENTRY = 1
 
 
 def jump_if(number, label):
-    """Returns the pairs that go on at a label if A is a number; otherwise A is another one behind them."""
+    """Returns the pairs that go on at a label if A is this number; otherwise they leave A changed."""
     return [(ADD, -number), (JUMP_AT_ZERO, label)]
 
 
@@ -56,7 +56,12 @@ def values_of(decl, value):
 
 
 class Around:
-    """Makes the code that leads a piece along a play."""
+    """Makes the code that leads a piece along a play.
+
+    On each move of the piece it looks whether that is the next one of the play. If so, it makes the
+    move of the other side that follows; otherwise it ends. So it does not matter which question
+    an answer belongs to, or what an exit has given up.
+    """
 
     def __init__(self, decls, play):
         self.play = play
@@ -72,7 +77,7 @@ class Around:
         return OVER if name == "" else LATER + self.arguments.index((name, arg))
 
     def checks(self, move):
-        """Returns pairs (pair, number): what tells A about a move of the piece, and what it has to tell."""
+        """Returns pairs (pair, number): pairs that look at what the piece has done, and the A that they have to tell."""
         found = [((LOAD, SORT), self.sort_of(move))]
         name, _, answers, value = move
         if answers:
@@ -82,7 +87,7 @@ class Around:
         return found + [((VALUE, at + 1), each) for at, each in enumerate(values)]
 
     def compare(self, count, move):
-        """Returns the pairs that go on behind them if the piece has made a move, and at "wrong" otherwise."""
+        """Returns the pairs that come to their end if the piece has made a move, and go on at "wrong" otherwise."""
         items = []
         for at, (asking, number) in enumerate(self.checks(move)):
             label = f"checked {count} {at}"
@@ -90,7 +95,7 @@ class Around:
         return items
 
     def follow(self, move):
-        """Returns the pairs that make a move of the other side, and what is done when an argument is answered."""
+        """Returns the pairs that make a move of the other side, and those for the answer of an argument."""
         name, arg, answers, value = move
         if answers:
             return [(NUMBER, value), (ANSWER, 0)]

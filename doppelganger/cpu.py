@@ -90,10 +90,10 @@ def tell_name(meeting, x):
 def tell_value(meeting, x):
     """A value of the call that waits last for A."""
     call = meeting.waiting()
-    if call is None or not 1 <= x <= len(call.values):
+    if call is None or not 1 <= x <= len(call.given):
         meeting.outcome = "faulted"
     else:
-        meeting.total = call.values[x - 1]
+        meeting.total = call.given[x - 1]
 
 
 def give_up(meeting, x):

@@ -40,11 +40,11 @@ class Call:
     `behind` is the place at which the piece goes on when it is answered.
     """
 
-    def __init__(self, instruction, values, behind):
+    def __init__(self, instruction, given, behind):
         self.named = instruction[1]
         self.is_command = instruction[2] == 1
         self.starts = instruction[4:]
-        self.values = values
+        self.given = given
         self.behind = behind
 
 
@@ -114,9 +114,9 @@ def do_jzero(meeting, inside, instruction):
 def do_call(meeting, inside, instruction):
     """Asks a declared name."""
     first = len(inside.numbers) - instruction[3]
-    values = inside.numbers[first:]
+    given = inside.numbers[first:]
     del inside.numbers[first:]
-    meeting.ask_name(Call(instruction, values, meeting.place))
+    meeting.ask_name(Call(instruction, given, meeting.place))
 
 
 def do_block(meeting, inside, instruction):

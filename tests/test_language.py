@@ -2,6 +2,7 @@
 
 import ast
 import builtins
+import functools
 import re
 import unittest
 import warnings
@@ -40,6 +41,14 @@ NO_WORDS = set(
     "typing typing_extensions enum Enum IntEnum StrEnum Flag IntFlag Generic Protocol ABC ABCMeta namedtuple NamedTuple"
     " TypedDict TYPE_CHECKING abstractmethod _wall _WallAttr".split()
 )
+# What attributes and methods may be called, although strings, numbers, lists, dicts, sets or bytes have it, too.
+ATTRIBUTES = set("count index title find get join lower upper split strip copy add".split())
+OWN_METHODS = set(
+    "append clear copy count endswith extend find get index insert isalnum isalpha isdigit islower isspace isupper items"
+    " join keys ljust lower lstrip partition pop remove replace reverse rfind rjust rpartition rsplit rstrip setdefault"
+    " split splitlines startswith strip update upper values zfill add discard".split()
+)
+OF_BUILTINS = {name for each in (str, int, list, dict, set, bytes, tuple) for name in dir(each) if not name.startswith("__")}
 STATEMENTS = (
     ast.FunctionDef, ast.ClassDef, ast.Return, ast.Delete, ast.Assign, ast.AugAssign, ast.AnnAssign, ast.For, ast.While,
     ast.If, ast.With, ast.Raise, ast.Try, ast.Assert, ast.ImportFrom, ast.Nonlocal, ast.Expr, ast.Pass, ast.Break,
@@ -51,12 +60,14 @@ def text_of(path):
     return path.read_text(encoding="utf-8")
 
 
+@functools.lru_cache(maxsize=None)
 def tree_of(path):
     with warnings.catch_warnings():
         warnings.simplefilter("error")
         return ast.parse(text_of(path), str(path))
 
 
+@functools.lru_cache(maxsize=None)
 def nodes_of(path, *kinds):
     return [node for node in ast.walk(tree_of(path)) if isinstance(node, kinds)]
 
@@ -198,6 +209,28 @@ class LanguageTest(unittest.TestCase):
         for node in nodes_of(path, ast.Name):
             if node.id in PYTHONS:
                 self.assertIn(node.id, BUILTINS)
+
+    @for_each_file
+    def test_own_attributes_and_methods(self, path):
+        for node in nodes_of(path, ast.Attribute):
+            if not isinstance(node.ctx, ast.Load):
+                self.assertNotIn(node.attr, OF_BUILTINS - ATTRIBUTES)
+                self.assertNotIn(node.attr, ("format", "args", "sort", "mro"))
+        for each in nodes_of(path, ast.ClassDef):
+            assigned = {node.attr for node in ast.walk(each) if isinstance(node, ast.Attribute) and not isinstance(node.ctx, ast.Load)
+                        and isinstance(node.value, ast.Name) and node.value.id == "self"}
+            methods = [node.name for node in each.body if isinstance(node, ast.FunctionDef)]
+            self.assertEqual(assigned & set(methods), set())
+            self.assertEqual(len(methods), len(set(methods)))
+            self.assertEqual({name for name in methods if name in OF_BUILTINS - OWN_METHODS}, set())
+
+    @for_each_file
+    def test_attributes_that_are_read_are_assigned(self, path):
+        assigned = {node.attr for other in FILES for node in nodes_of(other, ast.Attribute) if not isinstance(node.ctx, ast.Load)}
+        methods = {node.name for other in FILES for each in nodes_of(other, ast.ClassDef) for node in each.body
+                   if isinstance(node, ast.FunctionDef)}
+        for node in nodes_of(path, ast.Attribute):
+            self.assertIn(node.attr, assigned | methods | METHODS)
 
     @for_each_file
     def test_methods(self, path):
