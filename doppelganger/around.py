@@ -77,7 +77,7 @@ class Around:
         return OVER if name == "" else LATER + self.arguments.index((name, arg))
 
     def checks(self, move):
-        """Returns pairs (pair, number): pairs that look at what the piece has done, and the A that they have to tell."""
+        """Returns pairs (pair, number): pairs that look at what the piece has done, and the A that they must tell."""
         found = [((LOAD, SORT), self.sort_of(move))]
         name, _, answers, value = move
         if answers:
